@@ -1,0 +1,1 @@
+"""Kindalone: what a function's kind alone says of the function."""

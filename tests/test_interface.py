@@ -1,0 +1,41 @@
+"""Each function and class of the interface is defined in the file that the interface names, with its arguments."""
+
+import ast
+import importlib
+import inspect
+import pathlib
+import unittest
+
+PACKAGE = pathlib.Path(__file__).resolve().parent.parent / "kindalone"
+INTERFACE = {
+    "kinds": {
+        "is_data": ("thing",), "is_kind": ("thing",), "is_small": ("kind",), "is_handed": ("kind",),
+        "is_walked": ("kind",), "arguments_of": ("kind",), "result_of": ("kind",), "opens_in": ("kind",),
+    },
+    "worths": {"is_worth": ("kind", "sizes", "thing"), "worths_of": ("kind", "sizes", "bound")},
+    "terms": {"is_term": ("thing",)},
+}
+ERRORS = ("KindError", "TooMany", "TooMuch", "NoText", "NoKind", "NoLead", "NoName", "Taken", "Ring", "NoBack", "NoRow",
+          "Unbounded", "Broken", "Used")
+
+
+def defined_in(module):
+    tree = ast.parse((PACKAGE / f"{module}.py").read_text())
+    return {node.name for node in tree.body if isinstance(node, (ast.FunctionDef, ast.ClassDef))}
+
+
+class Interface(unittest.TestCase):
+    def test_functions(self):
+        for module, functions in INTERFACE.items():
+            for name, arguments in functions.items():
+                self.assertIn(name, defined_in(module))
+                function = getattr(importlib.import_module(f"kindalone.{module}"), name)
+                self.assertEqual(tuple(inspect.signature(function).parameters), arguments)
+
+    def test_errors(self):
+        for name in ERRORS:
+            self.assertIn(name, defined_in("errors"))
+
+
+if __name__ == "__main__":
+    unittest.main()
