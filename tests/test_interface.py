@@ -14,6 +14,11 @@ INTERFACE = {
     },
     "worths": {"is_worth": ("kind", "sizes", "thing"), "worths_of": ("kind", "sizes", "bound")},
     "terms": {"is_term": ("thing",)},
+    "kindtexts": {"show_kind": ("kind",), "read_kind": ("text",)},
+    "termtexts": {"show_term": ("term",), "read_term": ("text",)},
+    "worthtexts": {"show_worth": ("worth",), "read_worth": ("text",)},
+    "checking": {"kind_of": ("term", "looked", "known")},
+    "filling": {"filled_kind": ("kind", "fills"), "filled_term": ("term", "fills")},
 }
 ERRORS = ("KindError", "TooMany", "TooMuch", "NoText", "NoKind", "NoLead", "NoName", "Taken", "Ring", "NoBack", "NoRow",
           "Unbounded", "Broken", "Used")
