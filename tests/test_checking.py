@@ -215,7 +215,10 @@ class Checking(unittest.TestCase):
                      ("rounds", 1, ONE, "x", ("right", NUM, wrong)), ("alike", wrong, wrong)):
             self.refused(term, looked=("a",))
 
-    def test_wrong_looked_is_no_matter_where_nothing_looks(self):
+    def test_what_is_no_term_has_no_kind(self):
+        self.refused(None, A, ("num", True), ["num", 1], ("fold", ("none", A), ONE, "x", "x", ONE), ("first", [ONE]))
+
+    def test_looked_names_that_nothing_has_are_no_matter(self):
         self.check(fun(A, A), ("fun", "x", A, name("x")), ("b", "c"))
 
 

@@ -142,6 +142,20 @@ class Terms(unittest.TestCase):
         told = self.check_but_for_own_names(inside, (("a", O),), expected, "o", "a")
         self.assertEqual(kind_of(told, ()), many(NUM))
 
+    def test_a_kind_put_in_at_a_told_one(self):
+        known = (("f", (), fun(A, B, B)),)
+        told_one = ("told", "f", (("a", A), ("b", O)))
+        term = built(NUM, "o", call(told_one, ("fault", A), name("n")))
+        told = filled_term(term, (("a", O),))
+        self.assertNotIn("o", own_names(told))
+        self.assertEqual(kind_of(told, (), known), many(NUM))
+        alone = built(NUM, "o", ("told", "f", (("a", A), ("b", O), ("own", NUM), ("owna", NUM))))
+        told = filled_term(alone, (("a", many(O)),))
+        new = own_names(told)[0]
+        self.assertNotIn(new, ("o", "a", "b", "own", "owna"))
+        fills = (("a", many(O)), ("b", ("open", new)), ("own", NUM), ("owna", NUM))
+        self.assertEqual(told, built(NUM, new, ("told", "f", fills)))
+
     def test_a_kind_put_in_around_it(self):
         term = ("fun", "x", A, built(NUM, "o", call(("fun", "k", O, name("k")), name("n"))))
         expected = ("fun", "x", many(O), built(NUM, "q", call(("fun", "k", ("open", "q"), name("k")), name("n"))))

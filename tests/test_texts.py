@@ -223,7 +223,8 @@ class TermTexts(Texts, unittest.TestCase):
     def test_wrong_terms(self):
         self.refused("name", "name X", "name abcdefghi", "name x y", "fun x open a", "fun open a name x",
                      "fun X num num 3", "num", "num 03", "num 00", "num +1", "num -1", "num yes", "num x",
-                     "num 1_0", "num 1.0", "num 0x1",
+                     "num 1_0", "num 1.0", "num 0x1", "num left 1", "num num 1", "truth left 1", "truth truth yes",
+                     "rounds left 1 num 3 x num 3", "fun x left 1 name x", "none left 1",
                      "truth", "truth 1", "truth True", "truth true", "thing a 0", "yes", "3", "open a", "list num",
                      "fold name s num 3 x x name y", "built num o c c name n", "rounds 0 num 3 x num 3",
                      "rounds 31 num 3 x num 3", "rounds 01 num 3 x num 3", "rounds -1 num 3 x num 3",
@@ -263,6 +264,7 @@ class WorthTexts(Texts, unittest.TestCase):
         self.refused("00", "01", "+1", "-1", "1_0", "1.0", "a", "yes yes", "fault", "open a", "name x", "truth yes",
                      "num 3", "thing", "thing a", "thing A 0", "thing a a", "thing a 00", "thing a 0 0", "thing a -1",
                      "thing a yes", "thing abcdefghi 0", "pair 1", "pair 1 2 3", "left", "left 1 2", "right",
+                     "thing a pair 1 2", "thing a left 1", "maker 0 left 1", "maker left 1 1", "made left 1 1 1",
                      "middle 1", "list", "list 1", "list 2 1", "list 1 1 2", "list 00", "list -1", "list 1 fault",
                      "pair fault 1", "left fault",
                      "table", "table 1", "table 1 1", "table 1 1 1 1", "table 1 fault 1", "table 1 thing a 0",
