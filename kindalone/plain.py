@@ -31,6 +31,23 @@ def is_tagged(thing, word, many):
     return isinstance(thing, tuple) and len(thing) == many + 1 and thing[0] == word
 
 
-def is_rising(names):
-    """Whether each of the names is above the one ahead of it."""
-    return all(one < other for one, other in zip(names, names[1:]))
+def is_rising(row):
+    """Whether each in the row is above the one ahead of it."""
+    return all(one < other for one, other in zip(row, row[1:]))
+
+
+def is_same(one, other):
+    """Whether other, of anything, is the same as one throughout; Python takes True for 1, so == does not tell."""
+    # Made ones stand up to two hundred deep in one another: what waits is kept in a list.
+    waiting = [(one, other)]
+    while waiting:
+        left, right = waiting.pop()
+        if isinstance(left, tuple) != isinstance(right, tuple):
+            return False
+        if isinstance(left, tuple):
+            if len(left) != len(right):
+                return False
+            waiting.extend(list(zip(left, right)))
+        elif is_truth(left) != is_truth(right) or left != right:
+            return False
+    return True

@@ -39,6 +39,26 @@ def call(called, *handed):
     return called
 
 
+def binding(term, **kinds):
+    """The term within a function for each name, in this order."""
+    for x in reversed(list(kinds)):
+        term = ("fun", x, kinds[x], term)
+    return term
+
+
+def thing(x, number):
+    return ("thing", x, number)
+
+
+def items(*worths):
+    """The list of these worths."""
+    return ("list", worths)
+
+
+def table(*rows):
+    return ("table", rows)
+
+
 def nested(thing, word, deep):
     for level in range(deep):
         thing = (word, thing)

@@ -2,18 +2,11 @@ import unittest
 
 from kindalone.checking import kind_of
 from kindalone.errors import NoKind
-from tests.samples import A, B, C, NUM, TRUTH, Unchanged, call, either, fun, many, name, pair
+from tests.samples import A, B, C, NUM, TRUTH, Unchanged, binding, call, either, fun, many, name, pair
 
 ONE = ("num", 1)
 YES = ("truth", True)
 AA = fun(A, A)
-
-
-def binding(term, **kinds):
-    """The term within a function for each name, in this order."""
-    for x in reversed(list(kinds)):
-        term = ("fun", x, kinds[x], term)
-    return term
 
 
 class Checking(unittest.TestCase):

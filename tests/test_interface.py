@@ -19,6 +19,13 @@ INTERFACE = {
     "worthtexts": {"show_worth": ("worth",), "read_worth": ("text",)},
     "checking": {"kind_of": ("term", "looked", "known")},
     "filling": {"filled_kind": ("kind", "fills"), "filled_term": ("term", "fills")},
+    "running": {"run": ("term", "args")},
+    "settings": {"is_setting": ("thing",)},
+    "ties": {
+        "tied": ("kind", "setting", "one", "other"), "saying_of": ("kind",),
+        "tied_by": ("saying", "setting", "one", "other"),
+    },
+    "cases": {"cases_of": ("kind", "setting", "bound")},
 }
 ERRORS = ("KindError", "TooMany", "TooMuch", "NoText", "NoKind", "NoLead", "NoName", "Taken", "Ring", "NoBack", "NoRow",
           "Unbounded", "Broken", "Used")

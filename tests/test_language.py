@@ -51,6 +51,8 @@ def is_plain(node, above):
                    for part in node.keys + node.values)
     if isinstance(node, (ast.List, ast.Tuple)):
         return all(is_plain(part, above) and not isinstance(part, (ast.List, ast.Dict)) for part in node.elts)
+    if isinstance(node, ast.BinOp):
+        return isinstance(node.left, ast.Constant) and isinstance(node.right, ast.Constant)
     return isinstance(node, ast.Constant) or isinstance(node, ast.Name) and node.id in above
 
 

@@ -1,9 +1,9 @@
-import itertools
 import unittest
 
 from kindalone.errors import TooMany
 from kindalone.worths import is_worth, worths_of
-from tests.samples import A, B, C, NUM, TRUTH, WRONG, Unchanged, either, fun, many, pair, replaced
+from tests.samples import A, B, C, NUM, TRUTH, WRONG, Unchanged, either, fun, many, pair, replaced, table
+from tests.slow import slow_worths
 
 SIZES = (("a", 2), ("b", 1), ("d", 0))
 A0 = ("thing", "a", 0)
@@ -13,33 +13,9 @@ FAULT = ("fault",)
 D = ("open", "d")
 
 
-def table(*rows):
-    return ("table", rows)
-
-
 def strict(worths):
     """What tells True from 1."""
     return repr(worths)
-
-
-def slow_worths(kind, sizes, bound):
-    """All worths in order, however many: what point 6 says, written down once more."""
-    word = kind[0]
-    if word == "open":
-        return [("thing", kind[1], number) for number in range(dict(sizes).get(kind[1], 0))]
-    if word == "num":
-        return list(range(bound + 1))
-    if word == "truth":
-        return [False, True]
-    inner = [slow_worths(part, sizes, bound) for part in kind[1:]]
-    if word == "pair":
-        return [("pair", one, other) for one, other in itertools.product(*inner)]
-    if word == "either":
-        return [("left", one) for one in inner[0]] + [("right", other) for other in inner[1]]
-    if word == "list":
-        return [("list", items) for length in range(bound + 1) for items in itertools.product(inner[0], repeat=length)]
-    asked, told = inner
-    return [("table", tuple(zip(asked, run))) for run in itertools.product(told, repeat=len(asked))]
 
 
 class IsWorth(unittest.TestCase):
