@@ -59,6 +59,22 @@ def table(*rows):
     return ("table", rows)
 
 
+def num(number):
+    return ("num", number)
+
+
+def plus(*terms):
+    """The sum of terms, put together by halves, that many of them do not stand deep in one another."""
+    if len(terms) == 1:
+        return terms[0]
+    half = len(terms) // 2
+    return ("plus", plus(*terms[:half]), plus(*terms[half:]))
+
+
+# A num whose run is too much: sixteen times as great a number at each turn.
+TOO_MUCH = ("rounds", 30, num(1), "w", ("left", plus(*[name("w")] * 16), NUM))
+
+
 def nested(thing, word, deep):
     for level in range(deep):
         thing = (word, thing)

@@ -26,6 +26,11 @@ INTERFACE = {
         "tied_by": ("saying", "setting", "one", "other"),
     },
     "cases": {"cases_of": ("kind", "setting", "bound")},
+    "showing": {"shown": ("term", "looked", "setting", "bound")},
+    "showchecks": {"paper_holds": ("term", "looked", "setting", "bound", "thing")},
+    "tries": {"unbounded_at": ("kind", "looked"), "tries_of": ("kind", "looked", "bound")},
+    "parting": {"parted": ("one", "other", "looked", "bound")},
+    "alikechecks": {"alike_holds": ("one", "other", "looked", "bound", "thing")},
 }
 ERRORS = ("KindError", "TooMany", "TooMuch", "NoText", "NoKind", "NoLead", "NoName", "Taken", "Ring", "NoBack", "NoRow",
           "Unbounded", "Broken", "Used")

@@ -4,8 +4,8 @@ from kindalone.checking import kind_of
 from kindalone.errors import KindError, TooMuch
 from kindalone.running import run
 from tests.randomterms import Terms
-from tests.samples import (A, B, NUM, TRUTH, Unchanged, binding, call, either, fun, items, many, name, pair, table,
-                           thing)
+from tests.samples import (A, B, NUM, TOO_MUCH, TRUTH, Unchanged, binding, call, either, fun, items, many, name, num,
+                           pair, plus, table, thing)
 from tests.slow import slow_run, slow_worths
 
 FAULT = ("fault",)
@@ -18,18 +18,6 @@ NO = ("truth", False)
 # One step and a worth; no step and a fault.
 ONE_STEP = ("more", ("num", 7), NIL)
 FAILS = ("fault", NUM)
-
-
-def num(number):
-    return ("num", number)
-
-
-def plus(*terms):
-    """The sum of terms, put together by halves, that many of them do not stand deep in one another."""
-    if len(terms) == 1:
-        return terms[0]
-    half = len(terms) // 2
-    return ("plus", plus(*terms[:half]), plus(*terms[half:]))
 
 
 def worth(told, steps):
@@ -459,6 +447,7 @@ class Limits(Runs):
         doubled = ("fold", X, num(1), "x", "y", ("plus", Y, Y))
         self.check(worth(2 ** 99, 101), binding(doubled, x=many(NUM)), items(*range(99)))
         self.too_much(binding(doubled, x=many(NUM)), items(*range(100)))
+        self.too_much(TOO_MUCH)
 
     def test_parts_of_pairs_and_eithers(self):
         for many_items, held in ((197, True), (198, False)):
