@@ -41,18 +41,19 @@ def within_parts(worth):
     return worth
 
 
-def check_handed(worth):
-    """TooMuch where a number in a worth that is handed in is too great."""
+def from_outside(worth):
+    """The worth, which is handed in or told by a table; TooMuch where a number in it is too great."""
     waiting = [worth]
     while waiting:
         part = waiting.pop()
         if is_whole(part):
             within_numbers(part)
         waiting.extend(worths_within(part))
+    return worth
 
 
 def worths_within(worth):
-    """The worths that stand directly in a worth, a table's being all that it is asked and tells."""
+    """The worths that stand directly in a worth; a function has none, whatever it may tell."""
     if not isinstance(worth, tuple):
         return ()
     word = worth[0]
@@ -62,6 +63,4 @@ def worths_within(worth):
         return worth[1]
     if word == "made":
         return worth[2]
-    if word == "table":
-        return [part for row in worth[1] for part in row]
     return ()

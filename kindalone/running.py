@@ -5,10 +5,10 @@ one of these: ("closure", x, t, names), a fun with the names around it; a table;
 maker that has some of its arguments; ("putter",), a built's x; ("putting", item), that x with its first argument.
 """
 
-from kindalone.limits import Steps, check_handed, within_numbers, within_parts
+from kindalone.limits import Steps, from_outside, within_numbers, within_parts
 from kindalone.plain import is_same
+from kindalone.worths import FAULT
 
-FAULT = ("fault",)
 EMPTY = ("list", ())
 PUTTER = ("putter",)
 
@@ -31,8 +31,7 @@ def handed_in(term, args, steps):
     """What a term tells of arguments, each handed in when what is ahead of it was run."""
     told = worth_at(term, {}, steps)
     for argument in args:
-        check_handed(argument)
-        told = called(told, argument, steps)
+        told = called(told, from_outside(argument), steps)
     return told
 
 
@@ -65,7 +64,7 @@ def call_table(function, argument, steps):
     """A table tells by its row; a fault, and a worth that it has no row for, end the run."""
     for asked, told in function[1]:
         if asked == argument and told != FAULT:
-            return told
+            return from_outside(told)
     raise Faulted("a table's fault")
 
 

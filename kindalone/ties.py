@@ -4,9 +4,9 @@ from kindalone.kinds import opens_in
 from kindalone.limits import worths_within
 from kindalone.plain import is_same
 from kindalone.settings import pairs_of
+from kindalone.worths import FAULT
 
 SAME = ("same",)
-FAULT = ("fault",)
 # The word of a kind's saying, where the kind has an open name.
 SAYINGS = {
     "pair": "both",
@@ -57,7 +57,7 @@ def tied_ahead(setting, left, right):
 
     What a made one is made of has no kind here, so that the worths themselves tell how they are tied.
     """
-    if not isinstance(left, tuple) or not isinstance(right, tuple):
+    if not isinstance(left, tuple):
         return is_same(left, right)
     if left[0] != right[0] or len(worths_within(left)) != len(worths_within(right)):
         return False
@@ -91,13 +91,33 @@ def tied_functions(saying, setting, one, other):
     """Tables tell tied worths of tied ones; a maker is tied with itself alone."""
     if one[0] == "maker" or other[0] == "maker":
         return is_same(one, other)
-    return all(tied_rows(saying, setting, left, right) for left in one[1] for right in other[1])
+    return tied_tables(saying, setting, one[1], other[1])
 
 
-def tied_rows(saying, setting, left, right):
-    """Whether what two rows tell is tied, if what they are asked is."""
+def tied_tables(saying, setting, lefts, rights):
+    """Whether what the rows of two tables tell is tied, where what they are asked is."""
     word, asked, told = saying
-    return not tied_by(asked, setting, left[0], right[0]) or tied_answers(told, setting, left[1], right[1])
+    left_answers, left_numbers = numbered([answer for worth, answer in lefts])
+    right_answers, right_numbers = numbered([answer for worth, answer in rights])
+    # Tables of many rows mostly tell the same: two answers that have met are not held against each other again.
+    met = set()
+    for left, at_left in zip(lefts, left_numbers):
+        for right, at_right in zip(rights, right_numbers):
+            if (at_left, at_right) not in met and tied_by(asked, setting, left[0], right[0]):
+                met.add((at_left, at_right))
+    pairs = sorted(met)
+    return all(tied_answers(told, setting, left_answers[one], right_answers[other]) for one, other in pairs)
+
+
+def numbered(answers):
+    """The answers that are unlike, and for each answer its number among these."""
+    unlike = []
+    numbers = []
+    for answer in answers:
+        if answer not in unlike:
+            unlike.append(answer)
+        numbers.append(unlike.index(answer))
+    return unlike, numbers
 
 
 def tied_answers(saying, setting, left, right):

@@ -106,7 +106,6 @@ def ways_of_list(kind, came, looked, bound):
     for length in range(bound):
         runs = longer_runs(runs, kind, looked, bound)
         found.extend(runs)
-        need_few(found)
     return [(("list", items), later) for items, later in found]
 
 

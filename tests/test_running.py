@@ -439,7 +439,11 @@ class Limits(Runs):
         self.too_much(binding(X, x=NUM), 10 ** 30 + 1)
         self.too_much(binding(num(1), x=NUM), 10 ** 30 + 1)
         self.too_much(binding(num(1), x=many(NUM)), items(1, 10 ** 30 + 1))
-        self.too_much(binding(num(1), f=fun(TRUTH, NUM)), table((False, 1), (True, 10 ** 30 + 1)))
+        # What a table tells comes when it is told.
+        great = table((False, 1), (True, 10 ** 30 + 1))
+        self.check(worth(1, 2), binding(call(F, NO), f=fun(TRUTH, NUM)), great)
+        self.too_much(binding(call(F, YES), f=fun(TRUTH, NUM)), great)
+        self.too_much(binding(("less", call(F, YES), num(1)), f=fun(TRUTH, NUM)), great)
         self.check(worth(1, 1), binding(num(1), x=many(NUM)), items(1, 10 ** 30))
         self.check(worth(1, 1), binding(num(1), x=A), thing("a", 10 ** 30 + 1))
 

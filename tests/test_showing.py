@@ -79,6 +79,12 @@ class Shown(unittest.TestCase):
                               (fault(2), fault(2)))), FAULTING, LOOK, CROSSED, 0)
         self.check(("holds", ((fault(1), fault(1)),)), binding(("fault", NUM), x=many(A)), (), LOOSE, 0)
 
+    def test_a_fault_against_a_number_that_its_steps_are(self):
+        told = binding(("if", ("alike", X, Y), ("fault", NUM), num(2)), x=A, y=A)
+        self.check(("fails", ((A0, A0), (A1, A0)), worth(2, 2), fault(2)), told, LOOK, LOOSE, 0)
+        wide = (("a", 1, 2, ((0, 0), (0, 1))),)
+        self.check(("fails", ((A0, A0), (A0, A1)), fault(2), worth(2, 2)), told, LOOK, wide, 0)
+
     def test_steps_may_be_unlike(self):
         self.check(("holds", ((worth(A0, 3), worth(A0, 3)), (worth(A0, 2), worth(A0, 3)), (worth(A1, 2), worth(A0, 3)),
                               (worth(A1, 3), worth(A0, 3)))), LONGER, LOOK, LOOSE, 0)

@@ -111,6 +111,11 @@ class Ties(unittest.TestCase):
         self.yes(kind, table((B0, 5), (B1, FAULT)), table((B0, 5)))
         self.no(fun(B, A), table((B0, FAULT), (B1, A0)), table((B0, A1)))
         self.yes(fun(B, A), table((B0, A0), (B1, A0)), table((B0, A1)))
+        for kind, worth in ((pair(A, NUM), ("pair", A1, 3)), (either(A, NUM), ("left", A1)), (many(A), items(A1))):
+            self.yes(fun(B, kind), table((B0, FAULT), (B1, worth)), table((B0, FAULT)))
+            self.yes(fun(B, kind), table((B0, worth), (B1, FAULT)), table((B0, worth)))
+            self.no(fun(B, kind), table((B0, FAULT), (B1, worth)), table((B0, worth)))
+            self.no(fun(B, kind), table((B0, worth), (B1, worth)), table((B0, FAULT)))
         self.yes(fun(TRUTH, NUM), table((False, FAULT), (True, 1)), table((False, FAULT), (True, 1)))
         self.no(fun(TRUTH, NUM), table((False, FAULT), (True, 1)), table((False, 1), (True, FAULT)))
 
@@ -137,6 +142,9 @@ class Ties(unittest.TestCase):
         self.no(B, ("made", 1, (A0,)), ("made", 2, (A1,)))
         self.yes(B, ("made", 1, (A0, True)), ("made", 1, (A1, True)))
         self.no(B, ("made", 1, (A0, True)), ("made", 1, (A1, False)))
+        self.no(B, ("made", 1, (A0,)), ("made", 1, (A1, A1)))
+        self.no(B, ("made", 1, (B0,)), ("made", 1, (A0,)))
+        self.no(B, ("made", 1, (A1,)), ("made", 1, (B0,)))
         self.no(B, ("made", 0, (B0,)), B0)
         self.no(B, B0, ("made", 0, (B0,)))
         self.yes(A, ("made", 0, (("made", 0, (A1,)),)), ("made", 0, (("made", 0, (A0,)),)))
@@ -153,6 +161,23 @@ class Ties(unittest.TestCase):
             one, other, wrong = [("made", 3, (worth,)) for worth in (one, other, wrong)]
         self.assertIs(tied(A, SETTING, one, other), True)
         self.assertIs(tied(A, SETTING, one, wrong), False)
+
+    def test_tables_of_many_rows(self):
+        five = A
+        for level in range(4):
+            five = pair(A, five)
+        full = (("a", 3, 3, tuple((left, right) for left in range(3) for right in range(3))), ("b", 1, 1, ((0, 0),)))
+        kind = fun(five, five, B)
+        one = worths_of(kind, (("a", 3), ("b", 1)), 0)[0]
+        self.assertEqual(len(one[1]), 243)
+        self.assertIs(tied(kind, full, one, one), True)
+        inner = one[1][242][1][1]
+        last = table(*one[1][:242], (one[1][242][0], table(*inner[:242], (inner[242][0], FAULT))))
+        self.assertIs(tied(kind, full, one, last), False)
+        self.assertIs(tied(kind, full, last, one), False)
+        kept = (("a", 3, 3, ((0, 0), (1, 1), (2, 2))), ("b", 1, 1, ((0, 0),)))
+        self.assertIs(tied(kind, kept, last, last), True)
+        self.assertIs(tied(kind, kept, one, last), False)
 
     def test_by_other_means(self):
         kinds = (A, B, pair(A, B), either(A, TRUTH), many(A), many(pair(A, TRUTH)), fun(A, B), fun(A, TRUTH),
