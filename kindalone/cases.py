@@ -4,7 +4,7 @@ from kindalone.choices import one_of_each
 from kindalone.errors import TooMany
 from kindalone.kinds import arguments_of
 from kindalone.settings import left_sizes, right_sizes
-from kindalone.ties import saying_of, tied_by
+from kindalone.tiednumbers import tied_numbers
 from kindalone.worths import worths_of
 
 MOST_CASES = 200
@@ -22,8 +22,8 @@ def tied_choices(argument, setting, bound):
     """The tied worths of an argument: by the left one, then by the right one."""
     lefts = side_of(argument, left_sizes(setting), bound)
     rights = side_of(argument, right_sizes(setting), bound)
-    saying = saying_of(argument)
-    return [(left, right) for left in lefts for right in rights if tied_by(saying, setting, left, right)]
+    rows = tied_numbers(argument, setting, bound)
+    return [(left, rights[number]) for left, row in zip(lefts, rows) for number in row]
 
 
 def side_of(argument, sizes, bound):

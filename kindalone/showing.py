@@ -14,9 +14,14 @@ def shown(term, looked, setting, bound):
     saying = saying_of(result_of(kind))
     paper = []
     for arguments in cases_of(kind, setting, bound):
-        left = run(term, tuple(one for one, other in arguments))
-        right = run(term, tuple(other for one, other in arguments))
+        left, right = both_outcomes(term, arguments)
         if not tied_outcomes(saying, setting, left, right):
             return ("fails", arguments, left, right)
         paper.append((left, right))
     return ("holds", tuple(paper))
+
+
+def both_outcomes(term, arguments):
+    """The outcomes at the left and at the right arguments of a case."""
+    left = run(term, tuple(one for one, other in arguments))
+    return left, run(term, tuple(other for one, other in arguments))

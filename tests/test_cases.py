@@ -1,3 +1,4 @@
+import random
 import unittest
 
 from kindalone.cases import cases_of
@@ -15,6 +16,39 @@ SIXTY_FOUR = pair(NUM, pair(NUM, NUM))
 FIVE = either(NUM, B)
 HUNDRED = pair(NUM, pair(FIVE, FIVE))
 HUNDRED_AND_ONE = either(HUNDRED, B)
+
+
+def drawn_pairs(drawn):
+    """How many things an open name has at both sides, and which are tied."""
+    lefts, rights = drawn.randrange(4), drawn.randrange(4)
+    return lefts, rights, tuple((left, right) for left in range(lefts) for right in range(rights) if drawn.random() < 0.5)
+
+
+def drawn_small(drawn, deep):
+    if deep == 0 or drawn.random() < 0.4:
+        return drawn.choice((A, B, TRUTH))
+    return (drawn.choice(("pair", "either")), drawn_small(drawn, deep - 1), drawn_small(drawn, deep - 1))
+
+
+def drawn_data(drawn, deep):
+    if deep == 0 or drawn.random() < 0.3:
+        return drawn.choice((A, B, TRUTH, NUM))
+    word = drawn.choice(("pair", "either", "list"))
+    if word == "list":
+        return (word, drawn_data(drawn, deep - 1))
+    return (word, drawn_data(drawn, deep - 1), drawn_data(drawn, deep - 1))
+
+
+def count(kind, sizes, bound):
+    """How many worths a kind has."""
+    word = kind[0]
+    if word in ("open", "num", "truth"):
+        return {"open": sizes.get(kind[-1]), "num": bound + 1, "truth": 2}[word]
+    inner = [count(part, sizes, bound) for part in kind[1:]]
+    if word == "list":
+        return sum(inner[0] ** length for length in range(bound + 1))
+    return {"pair": lambda one, other: one * other, "either": lambda one, other: one + other,
+            "fun": lambda asked, told: told ** asked}[word](*inner)
 
 
 class Cases(unittest.TestCase):
@@ -128,6 +162,90 @@ class Cases(unittest.TestCase):
         for level in range(5):
             kind = pair(kind, many(kind))
         self.refused(fun(kind, NUM), (), 3)
+
+    def test_a_hundred_cases_of_a_hundred_worths_on_a_side(self):
+        ab = ("open", "ab")
+        kind = either(pair(NUM, pair(NUM, NUM)), pair(NUM, pair(ab, ab)))
+        setting = (("ab", 3, 3, ((0, 1), (1, 0), (2, 2))),)
+        crossed = (1, 0, 2)
+        cases = []
+        for one in range(4):
+            for other in range(4):
+                for last in range(4):
+                    worth = ("left", ("pair", one, ("pair", other, last)))
+                    cases.append(((worth, worth),))
+        for number in range(4):
+            for one in range(3):
+                for other in range(3):
+                    left = ("right", ("pair", number, ("pair", thing("ab", one), thing("ab", other))))
+                    last = ("pair", thing("ab", crossed[one]), thing("ab", crossed[other]))
+                    cases.append(((left, ("right", ("pair", number, last))),))
+        self.assertEqual(len(cases), 100)
+        self.check(tuple(cases), fun(kind, TRUTH), setting, 3)
+
+    def test_eighty_one_tables_on_a_side(self):
+        asked = pair(TRUTH, TRUTH)
+        crossed = (("a", 3, 3, ((0, 1), (1, 0), (2, 2))),)
+        cases = cases_of(fun(fun(asked, A), A), crossed, 0)
+        self.assertEqual(len(cases), 81)
+        self.check(tuple(slow_cases(fun(fun(asked, A), A), crossed, 0)), fun(fun(asked, A), A), crossed, 0)
+        # Where a left one is tied with two right ones, each of the rows has as many choices.
+        loose = (("a", 3, 3, ((0, 0), (1, 1), (1, 2))),)
+        self.assertEqual(len(slow_cases(fun(fun(asked, A), A), loose, 0)), 81)
+        self.check(tuple(slow_cases(fun(fun(asked, A), A), loose, 0)), fun(fun(asked, A), A), loose, 0)
+        full = (("a", 3, 3, tuple((left, right) for left in range(3) for right in range(3))),)
+        self.refused(fun(fun(asked, A), A), full, 0)
+
+    def test_tables_of_many_rows(self):
+        asked = pair(A, pair(A, pair(A, pair(A, A))))
+        full = (("a", 3, 3, tuple((left, right) for left in range(3) for right in range(3))), *ONE_B)
+        for told in (B, NUM):
+            cases = cases_of(fun(fun(asked, told), A), full, 0)
+            self.assertEqual(len(cases), 1)
+            self.assertEqual(len(cases[0][0][0][1]), 243)
+        # What they tell is not tied, wherever something that is asked is.
+        apart = (full[0], ("b", 1, 1, ()))
+        self.check((), fun(fun(asked, B), A), apart, 0)
+        self.assertEqual(len(cases_of(fun(fun(asked, B), A), (("a", 3, 3, ()), ("b", 1, 1, ())), 0)), 1)
+        # One side has many rows and one worth to tell, the other one few rows.
+        uneven = (("a", 3, 1, ((0, 0), (2, 0))), ("b", 1, 3, ((0, 0), (0, 2))))
+        self.assertEqual([two[0][1][1][0][1] for two in cases_of(fun(fun(asked, B), A), uneven, 0)],
+                         [thing("b", 0), thing("b", 2)])
+
+    def test_parts_that_have_far_too_many_worths(self):
+        great = A
+        for level in range(12):
+            great = pair(A, great)
+        setting = (("a", 1, 3, ((0, 0), (0, 1), (0, 2))), ("b", 0, 0, ()), ("c", 1, 0, ()))
+        for kind in (pair(great, C), pair(C, great), pair(B, great), fun(great, C), fun(TRUTH, pair(great, C))):
+            self.check((), fun(kind, A), setting, 1)
+        self.check((((items(), items()),),), fun(many(great), A), setting, 0)
+        self.check((((items(), items()),),), fun(many(pair(great, C)), A), setting, 3)
+        empty = (((table(), table()),),)
+        self.check(empty, fun(fun(B, great), A), setting, 3)
+
+    def test_drawn_kinds_by_other_means(self):
+        drawn = random.Random(5)
+        seen = refused = 0
+        for turn in range(400):
+            setting = tuple((x, *drawn_pairs(drawn)) for x in ("a", "b"))
+            kind = drawn_data(drawn, 2)
+            if turn % 2:
+                kind = fun(drawn_small(drawn, 1), drawn_data(drawn, 1))
+            bound = drawn.randrange(3)
+            sides = [tuple((row[0], row[at]) for row in setting) for at in (1, 2)]
+            # What is far too many to be listed here is not asked of.
+            if max(count(kind, dict(sizes), bound) for sizes in sides) > 100:
+                refused += 1
+                self.refused(fun(kind, A), setting, bound)
+                continue
+            cases = slow_cases(fun(kind, A), setting, bound)
+            if len(cases) <= 200:
+                seen += bool(cases)
+                self.check(tuple(cases), fun(kind, A), setting, bound)
+            else:
+                self.refused(fun(kind, A), setting, bound)
+        self.assertGreater(min(seen, refused), 50)
 
     def test_by_other_means(self):
         settings = (ONE_TO_ONE + ONE_B, LOOSE + ONE_B, (("a", 1, 3, ((0, 0), (0, 2))), ("b", 2, 2, ((0, 0), (1, 0)))),

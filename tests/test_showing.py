@@ -259,6 +259,23 @@ class Papers(unittest.TestCase):
         self.check(True, asked, paper)
         self.check(False, asked, replaced(paper, 84, (paper[84][0], worth(items(3, 3, 2), 8))))
 
+    def test_eighty_one_tables_on_a_side(self):
+        told = binding(call(F, ("pair", ("truth", True), ("truth", False))), f=fun(pair(TRUTH, TRUTH), A))
+        asked = (told, (), (("a", 3, 3, ((0, 1), (1, 0), (2, 2))),), 0)
+        paper = shown(*asked)[1]
+        self.assertEqual(len(paper), 81)
+        self.check(True, asked, paper)
+        wrong = (fault(2), fault(2))
+        for thing in (None, list(paper), paper[:-1], paper + paper[:1], (), replaced(paper, 0, wrong),
+                      replaced(paper, 40, wrong), replaced(paper, 80, wrong), replaced(paper, 80, None)):
+            self.check(False, asked, thing)
+
+    def test_a_wrong_row_ahead_of_a_run_that_is_too_much(self):
+        late = (binding(("if", ("less", X, num(1)), X, TOO_MUCH), x=NUM), (), (), 1)
+        row = (worth(0, 1), worth(0, 1))
+        for thing in ((row, row), ((), row), (row,), (row, (fault(1), fault(1)))):
+            self.check(False, late, thing)
+
     def test_a_table_in_the_arguments(self):
         asked = (binding(call(F, X), f=fun(A, NUM), x=A), (), LOOSE, 1)
         paper = shown(*asked)[1]
