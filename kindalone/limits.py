@@ -1,7 +1,6 @@
 """What a run may come to at most: its steps, its numbers, the worths that it makes."""
 
 from kindalone.errors import TooMuch
-from kindalone.plain import is_whole
 
 MOST_STEPS = 1000
 GREATEST = 10 ** 30
@@ -28,28 +27,11 @@ def within_numbers(number):
     return number
 
 
-def within_parts(worth):
-    """The worth, which was just made; TooMuch where it has too many parts."""
-    many = 0
-    waiting = [worth]
-    while waiting:
-        many += 1
-        if many > MOST_PARTS:
-            raise TooMuch(f"a worth of more than {MOST_PARTS} parts")
-        part = waiting.pop()
-        waiting.extend(worths_within(part))
-    return worth
-
-
-def from_outside(worth):
-    """The worth, which is handed in or told by a table; TooMuch where a number in it is too great."""
-    waiting = [worth]
-    while waiting:
-        part = waiting.pop()
-        if is_whole(part):
-            within_numbers(part)
-        waiting.extend(worths_within(part))
-    return worth
+def within_parts(many):
+    """How many parts a worth has that is made; TooMuch where they are too many."""
+    if many > MOST_PARTS:
+        raise TooMuch(f"a worth of more than {MOST_PARTS} parts")
+    return many
 
 
 def worths_within(worth):

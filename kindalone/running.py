@@ -3,13 +3,14 @@
 Each rule is handed the term, the worths of the names that count around it, and the steps so far. In a run a function is
 one of these: ("closure", x, t, names), a fun with the names around it; a table; a maker; ("making", j, many, args), a
 maker that has some of its arguments; ("putter",), a built's x; ("putting", item), that x with its first argument.
+Other worths are held with how many parts they have.
 """
 
-from kindalone.limits import Steps, from_outside, within_numbers, within_parts
+from kindalone.held import NO_ITEMS, given_out, items_of, make_list, make_made, make_pair, make_side, taken_in
+from kindalone.limits import Steps, within_numbers
 from kindalone.plain import is_same
 from kindalone.worths import FAULT
 
-EMPTY = ("list", ())
 PUTTER = ("putter",)
 
 
@@ -24,14 +25,14 @@ def run(term, args):
         worth = handed_in(term, args, steps)
     except Faulted:
         return ("fault", steps.taken)
-    return ("worth", worth, steps.taken)
+    return ("worth", given_out(worth), steps.taken)
 
 
 def handed_in(term, args, steps):
     """What a term tells of arguments, each handed in when what is ahead of it was run."""
     told = worth_at(term, {}, steps)
     for argument in args:
-        told = called(told, from_outside(argument), steps)
+        told = called(told, taken_in(argument), steps)
     return told
 
 
@@ -62,9 +63,10 @@ def call_closure(function, argument, steps):
 
 def call_table(function, argument, steps):
     """A table tells by its row; a fault, and a worth that it has no row for, end the run."""
+    worth = given_out(argument)
     for asked, told in function[1]:
-        if asked == argument and told != FAULT:
-            return from_outside(told)
+        if asked == worth and told != FAULT:
+            return taken_in(told)
     raise Faulted("a table's fault")
 
 
@@ -80,7 +82,7 @@ def call_making(function, argument, steps):
     has = (*had, argument)
     if len(has) < many:
         return ("making", number, many, has)
-    return within_parts(("made", number, has))
+    return make_made(number, has)
 
 
 def call_putter(function, argument, steps):
@@ -96,7 +98,7 @@ def call_putting(function, argument, steps):
 def put_on(item, rest, steps):
     """The list with an item put on."""
     steps.take()
-    return within_parts(("list", (item, *rest[1])))
+    return make_list(item, rest)
 
 
 CALLS = {
@@ -158,7 +160,7 @@ def run_if(term, names, steps):
 def run_pair(term, names, steps):
     """Both parts make a pair."""
     one, other = both_at(term, names, steps)
-    return within_parts(("pair", one, other))
+    return make_pair(one, other)
 
 
 def run_first(term, names, steps):
@@ -173,18 +175,18 @@ def run_second(term, names, steps):
 
 def run_left(term, names, steps):
     """The left side of an either."""
-    return within_parts(("left", worth_at(term[1], names, steps)))
+    return make_side("left", worth_at(term[1], names, steps))
 
 
 def run_right(term, names, steps):
     """The right side of an either."""
-    return within_parts(("right", worth_at(term[2], names, steps)))
+    return make_side("right", worth_at(term[2], names, steps))
 
 
 def run_case(term, names, steps):
     """The side that is there is run alone."""
     word, asked, x, left, y, right = term
-    side, worth = worth_at(asked, names, steps)
+    side, worth, parts = worth_at(asked, names, steps)
     if side == "left":
         return worth_at(left, {**names, x: worth}, steps)
     return worth_at(right, {**names, y: worth}, steps)
@@ -192,7 +194,7 @@ def run_case(term, names, steps):
 
 def run_none(term, names, steps):
     """The list of none."""
-    return EMPTY
+    return NO_ITEMS
 
 
 def run_more(term, names, steps):
@@ -204,7 +206,7 @@ def run_more(term, names, steps):
 def run_fold(term, names, steps):
     """A turn for each item, from the last one to the first."""
     word, asked, begun, x, y, turn = term
-    items = worth_at(asked, names, steps)[1]
+    items = items_of(worth_at(asked, names, steps))
     told = worth_at(begun, names, steps)
     steps.take()
     for item in items[::-1]:
@@ -217,7 +219,7 @@ def run_built(term, names, steps):
     """A list from what puts items on it."""
     word, data, own, x, y, inner = term
     steps.take()
-    return worth_at(inner, {**names, x: PUTTER, y: EMPTY}, steps)
+    return worth_at(inner, {**names, x: PUTTER, y: NO_ITEMS}, steps)
 
 
 def run_alike(term, names, steps):
@@ -237,7 +239,7 @@ def run_rounds(term, names, steps):
     told = worth_at(begun, names, steps)
     for number in range(turns):
         steps.take()
-        side, told = worth_at(turn, {**names, x: told}, steps)
+        side, told, parts = worth_at(turn, {**names, x: told}, steps)
         if side == "right":
             return told
     raise Faulted("no right in all turns")

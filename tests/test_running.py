@@ -503,6 +503,94 @@ class Limits(Runs):
         self.check(worth(items(*range(199)), 2 + 2 * 199), copied, items(*range(199)))
         self.too_much(copied, items(*range(200)))
 
+    def test_parts_of_what_is_made_of_worths_made_in_the_run(self):
+        """A list of so many items is copied item by item; the bound is where each word brings it to 200 parts."""
+        copies = (("fold", X, NIL, "x", "y", ("more", X, Y)),
+                  ("built", NUM, "o", "c", "n", ("fold", X, name("n"), "x", "y", call(name("c"), X, Y))))
+        added = call(name("c"), num(4), ("fold", X, name("n"), "x", "y", call(name("c"), X, Y)))
+        for copy in copies:
+            for most, told, made in (
+                (197, ("pair", copy, num(1)), lambda handed: ("pair", handed, 1)),
+                (197, ("pair", num(1), copy), lambda handed: ("pair", 1, handed)),
+                (98, ("pair", ("first", ("pair", copy, num(1))), copy), lambda handed: ("pair", handed, handed)),
+                (198, ("left", copy, NUM), lambda handed: ("left", handed)),
+                (198, ("right", NUM, copy), lambda handed: ("right", handed)),
+                (197, ("left", ("right", NUM, copy), NUM), lambda handed: ("left", ("right", handed))),
+                (198, ("more", num(4), copy), lambda handed: items(4, *handed[1])),
+                (198, ("more", copy, ("none", many(NUM))), lambda handed: items(handed)),
+                (198, ("built", NUM, "p", "c", "n", added), lambda handed: items(4, *handed[1])),
+            ):
+                self.at_the_bound(most, binding(told, x=many(NUM)), made)
+
+    def at_the_bound(self, most, term, made):
+        """Just so many items are not too much, one more is."""
+        kind_of(term, ())
+        handed = items(*range(most))
+        self.assertEqual(run(term, (handed,))[1], made(handed))
+        self.too_much(term, items(*range(most + 1)))
+
+    def test_parts_of_what_is_taken_out_and_made_anew(self):
+        # A list, two pairs or sides around it and a number.
+        for most, told in ((196, ("pair", ("first", Y), ("left", ("second", Y), NUM))),
+                           (196, ("pair", ("right", NUM, ("second", Y)), ("first", Y)))):
+            for length, held in ((most, True), (most + 1, False)):
+                handed = ("pair", 5, items(*range(length)))
+                term = binding(told, y=pair(NUM, many(NUM)))
+                if held:
+                    self.assertEqual(run(term, (handed,))[0], "worth")
+                else:
+                    self.too_much(term, handed)
+
+    def test_parts_of_the_rest_of_a_list(self):
+        # An item that is a list itself: taken out by a fold, and put on again.
+        inner = many(NUM)
+        told = binding(("fold", X, ("none", inner), "i", "a", ("more", name("i"), ("more", name("i"), name("a")))),
+                       x=many(inner))
+        self.assertEqual(run(told, (items(items(*range(98))),))[0], "worth")
+        self.assertEqual(1 + 2 * 99, 199)
+        self.too_much(told, items(items(*range(99))))
+        self.assertEqual(run(told, (items(items(*range(48)), items(*range(49))),))[0], "worth")
+        self.assertEqual(1 + 2 * 49 + 2 * 50, 199)
+        self.too_much(told, items(items(*range(49)), items(*range(49))))
+
+    def test_parts_of_made_ones_of_worths_handed_in_and_made(self):
+        row, leaf = A, A0
+        for level in range(98):
+            row, leaf = pair(A, row), ("pair", A0, leaf)
+        # 99 things and 98 pairs.
+        for args, told, held in (
+            ((("maker", 0, 1), leaf), call(F, X), True), ((("maker", 0, 1), ("pair", A0, leaf)), call(F, X), True),
+            ((("maker", 0, 1), ("pair", A0, ("pair", A0, leaf))), call(F, X), False),
+        ):
+            kind = row
+            worth_in = args[1]
+            while worth_in != leaf:
+                kind, worth_in = pair(A, kind), worth_in[2]
+            term = binding(told, f=fun(kind, B), x=kind)
+            if held:
+                self.assertEqual(run(term, args)[1], ("made", 0, (args[1],)))
+            else:
+                self.too_much(term, *args)
+        # The same, the last pair being made in the run; and with two arguments.
+        once = binding(call(F, ("pair", Y, X)), f=fun(pair(A, row), B), x=row, y=A)
+        self.assertEqual(run(once, (("maker", 0, 1), leaf, A1))[0], "worth")
+        twice = binding(call(F, ("pair", Y, ("pair", Y, X))), f=fun(pair(A, pair(A, row)), B), x=row, y=A)
+        self.too_much(twice, ("maker", 0, 1), leaf, A1)
+        both = binding(call(F, X, Y), f=fun(row, A, B), x=row, y=A)
+        self.assertEqual(run(both, (("maker", 0, 2), leaf, A1))[0], "worth")
+        three = binding(call(F, X, Y, Y, Y), f=fun(row, A, A, A, B), x=row, y=A)
+        self.too_much(three, ("maker", 0, 4), leaf, A1)
+        self.assertEqual(run(binding(call(F, X, Y, Y), f=fun(row, A, A, B), x=row, y=A),
+                             (("maker", 0, 3), leaf, A1))[0], "worth")
+
+    def test_a_list_made_item_by_item(self):
+        inner = ("fold", X, name("a"), "j", "b", ("more", name("j"), name("b")))
+        term = binding(("fold", X, NIL, "i", "a", inner), x=many(NUM))
+        self.check(worth(items(*[*range(12)] * 12), 314), term, items(*range(12)))
+        self.assertEqual(run(term, (items(*range(14)),))[2], 1 + 1 + 14 * (2 + 2 * 14))
+        # 15 times 15 items are too many: at the two hundredth.
+        self.too_much(term, items(*range(15)))
+
     def test_parts_of_made_ones(self):
         told = binding(("fold", Z, X, "u", "y", call(F, Y)), f=fun(A, A), x=A, z=many(NUM))
         deep = A0
