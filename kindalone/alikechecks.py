@@ -1,38 +1,45 @@
 """Papers of functions that are alike, checked."""
 
+from kindalone.checking import kind_of
 from kindalone.errors import TooMany, TooMuch, Unbounded
 from kindalone.outcomes import same_but_steps, without_steps
-from kindalone.parting import both_at_tries
 from kindalone.plain import is_same
+from kindalone.running import run
+from kindalone.tries import tries_of
 
 
 def alike_holds(one, other, looked, bound, thing):
     """Whether thing, of anything, is a paper of two functions that are alike at all tries."""
+    if not isinstance(thing, tuple):
+        return False
     try:
-        told = both_at_tries(one, other, looked, bound)
+        tries = tries_of(kind_of(one, looked), looked, bound)
+        outcomes = outcomes_by_try(thing, tries)
+        if outcomes is None:
+            return False
+        for tried, outcome in zip(tries, outcomes):
+            left = run(one, tried)
+            if not is_same(without_steps(left), outcome) or not same_but_steps(left, run(other, tried)):
+                return False
     except (Unbounded, TooMany, TooMuch):
         return False
-    if not all(same_but_steps(left, right) for tried, left, right in told):
-        return False
-    return is_reordered([(tried, without_steps(left)) for tried, left, right in told], thing)
-
-
-def is_reordered(rows, thing):
-    """Whether thing, of anything, is a tuple of these rows, each once, in any order."""
-    if not isinstance(thing, tuple) or len(thing) != len(rows):
-        return False
-    waiting = list(rows)
-    for row in thing:
-        at = place_of(row, waiting)
-        if at is None:
-            return False
-        del waiting[at]
     return True
 
 
-def place_of(thing, rows):
-    """Where thing, of anything, is among the rows; None where it is not."""
-    for at, row in enumerate(rows):
-        if is_same(row, thing):
-            return at
-    return None
+def outcomes_by_try(rows, tries):
+    """What the rows, of anything, tell for each try; None where they have not each try just once."""
+    if len(rows) != len(tries):
+        return None
+    told = {}
+    for row in rows:
+        if not isinstance(row, tuple) or len(row) != 2:
+            return None
+        # Python takes True for 1, and its keys may not be lists: what is written of a try tells it from all else.
+        told[repr(row[0])] = row[1]
+    found = []
+    for tried in tries:
+        key = repr(tried)
+        if key not in told:
+            return None
+        found.append(told[key])
+    return found

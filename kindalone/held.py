@@ -48,8 +48,11 @@ def items_of(worth):
 
 def taken_in(worth):
     """The worth, handed in or told by a table, as it is held; TooMuch where a number in it is too great."""
-    if not worths_within(worth):
-        return held(worth, [])
+    # Most are numbers, truths and things: these are not gone through.
+    if not isinstance(worth, tuple):
+        return within_numbers(worth)
+    if worth[0] == "thing":
+        return worth
     return rebuilt(worth, worths_within, held)
 
 
@@ -73,8 +76,8 @@ def held(worth, inner):
 
 def given_out(worth):
     """The worth that is held."""
-    if not held_within(worth):
-        return released(worth, [])
+    if not isinstance(worth, tuple) or worth[0] == "thing":
+        return worth
     return rebuilt(worth, held_within, released)
 
 

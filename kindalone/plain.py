@@ -42,12 +42,10 @@ def is_same(one, other):
     waiting = [(one, other)]
     while waiting:
         left, right = waiting.pop()
-        if isinstance(left, tuple) != isinstance(right, tuple):
-            return False
         if isinstance(left, tuple):
-            if len(left) != len(right):
+            if not isinstance(right, tuple) or len(left) != len(right):
                 return False
             waiting.extend(list(zip(left, right)))
-        elif is_truth(left) != is_truth(right) or left != right:
+        elif isinstance(right, tuple) or left != right or is_truth(left) != is_truth(right):
             return False
     return True

@@ -253,6 +253,39 @@ class Papers(unittest.TestCase):
         self.check(True, asked, paper[::-1])
         self.check(False, asked, paper[:-1])
 
+    def test_a_great_paper_in_another_order(self):
+        added = ("plus", X, ("plus", Y, Z))
+        one = binding(added, x=NUM, y=NUM, z=NUM, w=TRUTH)
+        asked = (one, one, (), 3)
+        paper = self.paper(*asked)[::-1]
+        self.assertEqual(len(paper), 128)
+        self.check(True, asked, paper)
+        for at in (0, 1, 63, 64, 126, 127):
+            tried, outcome = paper[at]
+            self.check(False, asked, paper[:at] + paper[at + 1:])
+            self.check(False, asked, paper + (paper[at],))
+            # Twice, in the stead of another one.
+            self.check(False, asked, replaced(paper, (at + 5) % 128, paper[at]))
+            self.check(False, asked, replaced(paper, at, (tried, ("worth", outcome[1] + 1))))
+            self.check(False, asked, replaced(paper, at, ((*tried[:3], int(tried[3])), outcome)))
+            self.check(False, asked, replaced(paper, at, (list(tried), outcome)))
+            self.check(False, asked, replaced(paper, at, [tried, outcome]))
+        # A truth in the place of a number, in a try and in what is told.
+        where = [row[0] for row in paper].index((1, 0, 0, False))
+        self.check(True, asked, replaced(paper, where, ((1, 0, 0, False), ("worth", 1))))
+        self.check(False, asked, replaced(paper, where, ((True, 0, 0, False), ("worth", 1))))
+        self.check(False, asked, replaced(paper, where, ((1, False, 0, False), ("worth", 1))))
+        self.check(False, asked, replaced(paper, where, ((1, 0, 0, False), ("worth", True))))
+        self.check(False, asked, replaced(paper, where, ((1, 0, 0, 0), ("worth", 1))))
+        self.check(False, asked, list(paper))
+        self.check(False, (one, binding(("plus", X, Y), x=NUM, y=NUM, z=NUM, w=TRUTH), (), 3), paper)
+
+    def test_what_is_written_as_a_try_is_none(self):
+        asked = (binding(X, x=NUM), binding(X, x=NUM), (), 0)
+        self.check(True, asked, (((0,), ("worth", 0)),))
+        for tried in ("(0,)", "'(0,)'", ("0",), [0], {0}, {0: 0}, (0, None)):
+            self.check(False, asked, ((tried, ("worth", 0)),))
+
     def test_what_parted_tells_is_no_paper(self):
         for asked in self.ALL:
             self.check(False, asked, parted(*asked))
