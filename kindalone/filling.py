@@ -1,11 +1,8 @@
 """Kinds and terms filled: data kinds put in for open names."""
 
 from kindalone.kinds import opens_in
-from kindalone.plain import LETTERS
-from kindalone.terms import TERM_FORMS, kinds_here, terms_in
-
-# New names begin so: a plain letter is likelier to be looked at by a caller, which is not seen here.
-NEW_NAME = "own"
+from kindalone.terms import TERM_FORMS, all_parts, kinds_here, terms_in
+from kindalone.unused import Unused
 
 
 def filled_kind(kind, fills):
@@ -30,7 +27,7 @@ def filled_term(term, fills):
     taken = names_in(term)
     for name, kind in fills:
         taken.extend([name, *opens_in(kind)])
-    return filled(term, dict(fills), new_names(own_names(term), arriving, taken))
+    return filled(term, dict(fills), new_names(own_names(term), arriving, Unused(taken)))
 
 
 def free_opens(term):
@@ -51,17 +48,6 @@ def opens_here(term):
     return [name for kind in kinds_here(term) for name in opens_in(kind)]
 
 
-def all_parts(term):
-    """The parts of a term, in any order."""
-    parts = []
-    waiting = [term]
-    while waiting:
-        part = waiting.pop()
-        parts.append(part)
-        waiting.extend(terms_in(part))
-    return parts
-
-
 def own_names(term):
     """The own names of all builts in a term."""
     return [part[2] for part in all_parts(term) if part[0] == "built"]
@@ -80,28 +66,13 @@ def names_in(term):
     return names
 
 
-def new_names(own, arriving, taken):
-    """A new name, taken nowhere, for each own name that is among the arriving ones."""
+def new_names(own, arriving, unused):
+    """An unused name for each own name that is among the arriving ones."""
     renamed = {}
-    number = 0
     for name in own:
         if name in arriving and name not in renamed:
-            while new_name(number) in taken:
-                number += 1
-            renamed[name] = new_name(number)
-            number += 1
+            renamed[name] = unused.another()
     return renamed
-
-
-def new_name(number):
-    """The new name of this number, each another one."""
-    letters = ""
-    rest = number
-    while rest > 0:
-        rest -= 1
-        letters = LETTERS[rest % 26] + letters
-        rest = rest // 26
-    return NEW_NAME + letters
 
 
 def filled(term, put, renamed):

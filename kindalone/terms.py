@@ -93,6 +93,22 @@ def terms_in(term):
     return [part for role, part in zip(TERM_FORMS[term[0]], term[1:]) if role == "term"]
 
 
+def places_of(term):
+    """Where in the tuple of a term its terms stand, in their order."""
+    return [at for at, role in enumerate(TERM_FORMS[term[0]], 1) if role == "term"]
+
+
+def all_parts(term):
+    """The parts of a term, in any order."""
+    parts = []
+    waiting = [term]
+    while waiting:
+        part = waiting.pop()
+        parts.append(part)
+        waiting.extend(terms_in(part))
+    return parts
+
+
 def kinds_here(term):
     """The kinds that a term itself has, those of its terms not among them."""
     kinds = []

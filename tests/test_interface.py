@@ -31,6 +31,10 @@ INTERFACE = {
     "tries": {"unbounded_at": ("kind", "looked"), "tries_of": ("kind", "looked", "bound")},
     "parting": {"parted": ("one", "other", "looked", "bound")},
     "alikechecks": {"alike_holds": ("one", "other", "looked", "bound", "thing")},
+    "straight": {"is_straight": ("x", "y", "term")},
+    "leads": {"led_by": ("term", "looked", "lead"), "led": ("term", "looked")},
+    "leadchecks": {"leads_holds": ("one", "other", "looked", "thing")},
+    "looks": {"leak_of": ("term", "looked", "bound")},
 }
 ERRORS = ("KindError", "TooMany", "TooMuch", "NoText", "NoKind", "NoLead", "NoName", "Taken", "Ring", "NoBack", "NoRow",
           "Unbounded", "Broken", "Used")
