@@ -214,7 +214,7 @@ class Cases(unittest.TestCase):
 
     def test_parts_that_have_far_too_many_worths(self):
         great = A
-        for level in range(12):
+        for level in range(28):
             great = pair(A, great)
         setting = (("a", 1, 3, ((0, 0), (0, 1), (0, 2))), ("b", 0, 0, ()), ("c", 1, 0, ()))
         for kind in (pair(great, C), pair(C, great), pair(B, great), fun(great, C), fun(TRUTH, pair(great, C))):
