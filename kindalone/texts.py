@@ -25,6 +25,9 @@ COUNTED = {
     "fills": ("name", "kind"),
     "items": ("worth",),
     "rows": ("worth", "answer"),
+    "names": ("name",),
+    "setting": ("name", "number", "number", "pairs"),
+    "pairs": ("number", "number"),
 }
 FIGURES = "0123456789"
 
@@ -81,12 +84,21 @@ def read(text, role):
     """What the text, of anything, is written of, which has this role; NoText where it is not so written."""
     if not isinstance(text, str):
         raise NoText("no text")
-    words = text.split(" ")
-    waiting = [role]
+    return read_words(text.split(" "), (role,), None)[0]
+
+
+def read_words(words, first, again):
+    """What the words are written of, one behind the other: of the first roles, then, where there is one, of another.
+
+    NoText where they are not so written.
+    """
+    if len(first) > len(words):
+        raise NoText("the end is missing")
+    waiting = list(first[::-1])
     roles = []
     for at, word in enumerate(words):
         if not waiting:
-            raise NoText("words behind the end")
+            waiting.append(again)
         asked = waiting.pop()
         roles.append(asked)
         left = len(words) - at - 1
@@ -99,6 +111,8 @@ def read(text, role):
 
 def roles_behind(word, role, left):
     """The roles of what comes behind a word of this role, with so many words left; NoText where it has not the role."""
+    if role is None:
+        raise NoText("words behind the end")
     if role in COUNTED:
         if not is_figures(word) or int(word) > left:
             raise NoText("this is not how many follow")
@@ -115,6 +129,8 @@ def is_single(word, role):
     """Whether a word is by itself what has this role."""
     if role == "name":
         return is_name(word)
+    if role == "word":
+        return word != ""
     if role in ("number", "turns"):
         return is_figures(word)
     if role == "truth":
@@ -130,7 +146,7 @@ def is_figures(word):
 
 
 def put_together(words, roles):
-    """What the words are written of: from the last one on, each takes what was put together behind it."""
+    """What the words are written of, in order: from the last one on, each takes what was put together behind it."""
     done = []
     for word, role in reversed(list(zip(words, roles))):
         if is_single(word, role):
@@ -140,12 +156,12 @@ def put_together(words, roles):
             parts = done[len(done) - many:][::-1]
             del done[len(done) - many:]
             done.append(joined(word, role, parts))
-    return done[0]
+    return done[::-1]
 
 
 def single(word, role):
     """What a word by itself stands for."""
-    if role == "name":
+    if role in ("name", "word"):
         return word
     if word in ("yes", "no"):
         return word == "yes"
@@ -156,6 +172,7 @@ def joined(word, role, parts):
     """What a word stands for, with its parts."""
     if role not in COUNTED:
         return (word, *parts)
-    if len(COUNTED[role]) == 1:
+    many = len(COUNTED[role])
+    if many == 1:
         return tuple(parts)
-    return tuple(zip(parts[::2], parts[1::2]))
+    return tuple(tuple(parts[at:at + many]) for at in range(0, len(parts), many))

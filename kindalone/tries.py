@@ -76,7 +76,8 @@ def ways_of(kind, came, looked, bound):
     if word == "open":
         return ways_of_thing(kind[1], came, looked)
     if word == "num":
-        return [(number, came) for number in range(bound + 1)]
+        # A bound may be far too great to be counted to.
+        return [(number, came) for number in range(min(bound, MOST_TRIES) + 1)]
     if word == "truth":
         return [(False, came), (True, came)]
     if word == "either":
@@ -106,6 +107,7 @@ def ways_of_list(kind, came, looked, bound):
     for length in range(bound):
         runs = longer_runs(runs, kind, looked, bound)
         found.extend(runs)
+        need_few(found)
     return [(("list", items), later) for items, later in found]
 
 

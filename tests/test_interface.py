@@ -35,9 +35,20 @@ INTERFACE = {
     "leads": {"led_by": ("term", "looked", "lead"), "led": ("term", "looked")},
     "leadchecks": {"leads_holds": ("one", "other", "looked", "thing")},
     "looks": {"leak_of": ("term", "looked", "bound")},
+    "moving": {"mapped": ("kind", "maps", "worth"), "moved": ("term", "maps", "args")},
+    "rounding": {"more_rounds": ("term", "by")},
+    "findings": {"finding_holds": ("thing",)},
 }
 ERRORS = ("KindError", "TooMany", "TooMuch", "NoText", "NoKind", "NoLead", "NoName", "Taken", "Ring", "NoBack", "NoRow",
           "Unbounded", "Broken", "Used")
+CLASSES = {
+    ("stands", "Stand"): {
+        "tell": ("name", "looked", "term"), "retell": ("name", "looked", "term"), "drop": ("name",), "back": ("many",),
+        "deeds": (), "names": (), "kind": ("name",), "looked": ("name",), "whole": ("name",), "uses": ("name",),
+        "made": ("name",),
+    },
+    ("desk", "Desk"): {"say": ("text",)},
+}
 
 
 def defined_in(module):
@@ -52,6 +63,21 @@ class Interface(unittest.TestCase):
                 self.assertIn(name, defined_in(module))
                 function = getattr(importlib.import_module(f"kindalone.{module}"), name)
                 self.assertEqual(tuple(inspect.signature(function).parameters), arguments)
+
+    def test_classes(self):
+        for (module, name), methods in CLASSES.items():
+            self.assertIn(name, defined_in(module))
+            found = getattr(importlib.import_module(f"kindalone.{module}"), name)
+            self.assertIsInstance(found(), found)
+            for method, arguments in methods.items():
+                self.assertIn(method, vars(found))
+                self.assertEqual(tuple(inspect.signature(vars(found)[method]).parameters)[1:], arguments)
+
+    def test_fields(self):
+        errors = importlib.import_module("kindalone.errors")
+        self.assertEqual(errors.Unbounded(3).argument, 3)
+        self.assertEqual(errors.Broken("f").name, "f")
+        self.assertEqual(errors.Used("f").name, "f")
 
     def test_errors(self):
         for name in ERRORS:
