@@ -19,14 +19,24 @@ from kindalone.showing import both_outcomes
 from kindalone.ties import saying_of, tied
 from kindalone.worths import is_worth
 
+# How many parts stand behind each word of a finding.
+MANY_PARTS = {
+    "kind": 3,
+    "holds": 5,
+    "fails": 6,
+    "alike": 5,
+    "parted": 6,
+    "led": 4,
+}
+
 
 def finding_holds(thing):
     """Whether thing, of anything, is a finding that holds."""
-    if not isinstance(thing, tuple) or not thing or not isinstance(thing[0], str) or thing[0] not in FINDINGS:
+    if not isinstance(thing, tuple) or not thing or not isinstance(thing[0], str) or thing[0] not in MANY_PARTS:
         return False
-    many, is_so = FINDINGS[thing[0]]
-    if len(thing) != many + 1:
+    if len(thing) != MANY_PARTS[thing[0]] + 1:
         return False
+    is_so = FINDINGS[thing[0]]
     try:
         return is_so(thing[1:])
     except (NoKind, TooMuch):
@@ -133,12 +143,11 @@ def is_so_led(parts):
     return leads_holds(one, other, looked, paper)
 
 
-# How many parts stand behind each word, and what looks at them.
 FINDINGS = {
-    "kind": (3, is_so_kind),
-    "holds": (5, is_so_holds),
-    "fails": (6, is_so_fails),
-    "alike": (5, is_so_alike),
-    "parted": (6, is_so_parted),
-    "led": (4, is_so_led),
+    "kind": is_so_kind,
+    "holds": is_so_holds,
+    "fails": is_so_fails,
+    "alike": is_so_alike,
+    "parted": is_so_parted,
+    "led": is_so_led,
 }

@@ -56,7 +56,7 @@ class Stand:
         """Takes the stand to what it was behind its first so many deeds; NoBack."""
         if not is_number(many) or many >= len(self.states):
             raise NoBack("so many deeds were not done")
-        del self.states[many + 1:]
+        self.states = self.states[:many + 1]
 
     def deeds(self):
         """How many deeds were done."""

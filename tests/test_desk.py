@@ -9,13 +9,12 @@ from kindalone.showing import shown
 from kindalone.termtexts import show_term
 from kindalone.worthtexts import show_worth
 from tests.randomterms import Terms, parts_of_term
-from tests.samples import A, B, NUM, TOO_MUCH, TRUTH, WRONG, binding, call, either, fun, items, many, name, num, pair, table, thing
+from tests.samples import A, B, NUM, TOO_MUCH, TRUTH, WRONG, binding, call, either, fun, items, many, name, num, pair
 from tests.slow import arguments
 from tests.test_running import random_worth
 from tests.test_stands import ALIKE, BUILT, COPY, NEXT, SAME, shown as stand_shown, told, wide
 
 X, Y, F = name("x"), name("y"), name("f")
-A0, A1 = thing("a", 0), thing("a", 1)
 FIRST = binding(X, x=A, y=A)
 SECOND = binding(Y, x=A, y=A)
 FAILING = binding(("if", ("alike", X, Y), X, ("fault", A)), x=A, y=A)
@@ -203,7 +202,7 @@ class Bounds(DeskCase):
     def test_settings_and_bounds(self):
         self.tell("f", SAME)
         self.says("holds 2", f"says f 3 {CROSSED}")
-        self.no_rows(f"says f 4 {CROSSED}", f"alike f f 4", f"says f 10 {CROSSED}", "alike f f 99")
+        self.no_rows(f"says f 4 {CROSSED}", "alike f f 4", f"says f 10 {CROSSED}", "alike f f 99")
         self.says("alike", "alike f f 3")
         self.says("holds 0", "says f 0 1 a 3 3 0")
         self.no_rows("says f 0 1 a 4 3 0", "says f 0 1 a 3 4 0")
@@ -499,9 +498,6 @@ class Drawn(DeskCase):
             expected = {"TooMany": "too many", "TooMuch": "too much"}[type(refusal).__name__]
         seen[expected.split(" ")[0]] = seen.get(expected.split(" ")[0], 0) + 1
         self.says(expected, row)
-
-    def test_tables(self):
-        self.assertEqual(show_worth(table((A0, True), (A1, False))), "table 2 thing a 0 yes thing a 1 no")
 
 
 if __name__ == "__main__":

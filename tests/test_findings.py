@@ -171,6 +171,14 @@ class Holds(Findings):
         for setting in ((), (("b", 2, 1, ((0, 0), (1, 0))),), list(LOOSE), (("a", 2, 1, ((1, 0), (0, 0))),),
                         (("a", 2, 1, ((0, 1),)),), (("a", True, 1, ()),), (("a", 2, 1),), (LOOSE[0], LOOSE[0]), None):
             self.check(False, replaced(HOLDS, 3, setting))
+        # Without the things of a name there are no cases, but it is no setting of all names.
+        self.check(False, ("holds", FIRST, (), (), 0, ()))
+        self.check(False, ("holds", FIRST, (), (("b", 1, 1, ()),), 0, ()))
+        self.check(True, ("holds", FIRST, (), (("a", 0, 0, ()),), 0, ()))
+        listed = binding(("if", ("alike", X, Y), num(1), num(2)), x=A, y=A, z=many(B))
+        case = ((A0, A0), (A1, A0), (items(), items()))
+        self.check(False, fails(listed, LOOK, LOOSE, case))
+        self.check(True, fails(listed, LOOK, (*LOOSE, ("b", 0, 0, ())), case))
         # Another one, by which it would hold with another paper.
         self.check(False, replaced(HOLDS, 3, CROSSED))
 
@@ -364,6 +372,9 @@ class Parted(Findings):
         # No maker where a truth is told, or for data.
         self.check(False, ("parted", ASKING, binding(X, f=fun(A, TRUTH), x=A, y=A), (), (("maker", 0, 1), A0, A1),
                            ("worth", A0, 4), ("worth", A1, 3)))
+        unused = [binding(told, f=fun(A, TRUTH), x=A, y=A) for told in (X, Y)]
+        self.check(False, unlike(*unused, (), (("maker", 0, 1), A0, A1)))
+        self.check(True, unlike(*unused, (), (table((A0, True), (A1, True)), A0, A1)))
         self.check(False, ("parted", FIRST, SECOND, (), (("maker", 0, 1), A1), ("worth", ("maker", 0, 1), 2), ("worth", A1, 2)))
 
     def test_arguments_otherwise(self):

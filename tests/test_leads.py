@@ -210,10 +210,9 @@ class Rules(Leads):
             ("fold", call(("fun", "w", fun(NUM, O, O), asked), C), N, "x", "y", call(C, X, Y)),
         ):
             self.none(built(inner), ((), "copied"))
-        # The names: c the fold's own first or second one.
-        self.none(binding(built(("fold", ("none", fun(NUM, O, O)[1]), N, "x", "y", call(C, X, Y))), w=NUM), ((), "copied"))
-        inner = ("fold", Z, N, "c", "y", call(C, C, Y))
-        self.assertRaises(NoKind, kind_of, binding(built(inner), z=many(NUM)), ())
+        # With c as the fold's own first or second name it has no kind.
+        for inner in (("fold", Z, N, "c", "y", call(C, C, Y)), ("fold", Z, N, "x", "c", call(C, X, C))):
+            self.assertRaises(NoKind, kind_of, binding(built(inner), z=many(NUM)), ())
         # n may be the fold's own first or second one.
         for first, second in (("n", "y"), ("x", "n")):
             same = built(("fold", asked, N, first, second, call(C, name(first), name(second))))

@@ -10,11 +10,11 @@ from kindalone.settings import is_setting
 from kindalone.ties import tied
 from kindalone.tries import tries_of
 from tests.randomterms import Terms
-from tests.samples import (A, B, NUM, TOO_MUCH, TRUTH, Unchanged, binding, call, either, fun, items, many, name, num, pair,
+from tests.samples import (A, B, NUM, TOO_MUCH, TRUTH, Unchanged, binding, call, either, fun, many, name, num, pair,
                            table, thing)
 from tests.slow import arguments, last_of, slow_cases, slow_told, slow_worths, things_in
 
-A0, A1, A2 = thing("a", 0), thing("a", 1), thing("a", 2)
+A0, A1 = thing("a", 0), thing("a", 1)
 B0, B1 = thing("b", 0), thing("b", 1)
 X, Y, Z, F, G = name("x"), name("y"), name("z"), name("f"), name("g")
 LOOK = ("a",)
@@ -280,9 +280,6 @@ class LeaksOrKeeps(LeakCase):
             right = run(term, tuple(other for one, other in case))
             self.assertTrue(slow_told(last_of(kind), setting, left[1] if left[0] == "worth" else ("fault",),
                                       right[1] if right[0] == "worth" else ("fault",)), (term, setting, case))
-
-    def test_items_are_looked_at(self):
-        self.assertEqual(things_in(items(A0, A2)), [A0, A2])
 
 
 if __name__ == "__main__":

@@ -1,4 +1,3 @@
-import random
 import unittest
 
 from kindalone.checking import kind_of
@@ -9,10 +8,10 @@ from kindalone.running import run
 from kindalone.stands import Stand
 from kindalone.terms import is_term
 from tests.randomterms import Terms, parts_of_term, terms_in
-from tests.samples import A, B, C, NUM, TRUTH, binding, call, either, fun, items, many, name, num, pair, replaced
+from tests.samples import A, B, C, NUM, TRUTH, binding, call, either, fun, items, many, name, num, pair
 from tests.test_filling import in_one_way, own_names
 
-X, Y, Z, F = name("x"), name("y"), name("z"), name("f")
+X, Y, F = name("x"), name("y"), name("f")
 O, P = ("open", "o"), ("open", "p")
 SAME = binding(X, x=A)
 NEXT = binding(("plus", X, num(1)), x=NUM)
@@ -193,7 +192,8 @@ class Retell(StandCase):
 
     def test_no_kind(self):
         self.tell("f", SAME)
-        for looked, term in (((), X), ((), num(1)), (("b",), SAME), ((), ALIKE), ((), told("g")), ((), ("fun", "x"))):
+        for looked, term in (((), X), ((), num(1)), (("b",), SAME), ((), ALIKE), ((), told("g")), ((), ("fun", "x")),
+                             ((), ("told",)), ((), ("fun", "x", A, None)), ((), ("told", "f"))):
             self.refused(NoKind, self.stand.retell, "f", looked, term)
 
     def test_rings(self):
@@ -345,6 +345,12 @@ class DropAndBack(StandCase):
         self.stand.drop("k")
         self.stand.drop("f")
         self.assertEqual(self.stand.names(), ())
+        # In the order they came, not by their names.
+        self.tell("z", NEXT)
+        self.tell("y", told("z"))
+        self.tell("x", told("z"))
+        self.assertEqual(self.refused(Used, self.stand.drop, "z").name, "y")
+        self.assertEqual(self.refused(Broken, self.stand.retell, "z", (), SAME).name, "y")
         # Only what names it uses it.
         self.tell("a", NEXT)
         self.tell("b", told("a"))
@@ -642,7 +648,6 @@ class Samples(unittest.TestCase):
     def test_their_sizes(self):
         for size in (6, 20, 98, 200):
             self.assertEqual(parts_of_term(wide(size))[0], size)
-        self.assertEqual(replaced((1, 2), 0, 3), (3, 2))
 
 
 if __name__ == "__main__":

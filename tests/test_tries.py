@@ -111,6 +111,16 @@ class TriesOf(unittest.TestCase):
         with self.assertRaises(TooMany):
             tries_of(kind, looked, bound)
 
+    def test_great_bounds(self):
+        self.many(200, fun(NUM, NUM), bound=199)
+        self.many(200, fun(many(A), A), bound=199)
+        self.many(200, fun(either(many(A), many(B)), A), bound=99)
+        for bound in (200, 201, 10 ** 39):
+            for data in (NUM, many(A), many(NUM), pair(TRUTH, NUM), either(many(A), TRUTH), many(many(A))):
+                self.refused(fun(data, A), bound=bound)
+            self.refused(fun(A, fun(A, NUM), A), bound=bound)
+            self.check([(A0, False), (A0, True)], fun(A, TRUTH, A), bound=bound)
+
     def test_things_have_the_next_number(self):
         self.check([(A0,)], fun(A, A))
         self.check([(A0, A1)], fun(A, A, A))

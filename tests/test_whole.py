@@ -183,11 +183,6 @@ class AlikeOnTries(unittest.TestCase):
                 self.assertEqual(caught.exception.argument, number)
 
 
-def told_by(term, args):
-    """The outcome of a run by other means."""
-    return slow_run(term, args)
-
-
 def answered(outcome):
     return outcome[1] if outcome[0] == "worth" else ("fault",)
 
@@ -215,7 +210,7 @@ def so_holds(kind, finding):
         if any(len(slow_worths(argument, sizes, bound)) > 100 for argument in arguments(kind)):
             return False
     cases = slow_cases(kind, setting, bound)
-    rows = tuple(tuple(told_by(term, tuple(two[at] for two in case)) for at in (0, 1)) for case in cases)
+    rows = tuple(tuple(slow_run(term, tuple(two[at] for two in case)) for at in (0, 1)) for case in cases)
     if len(cases) > 200 or any("too much" in row for row in rows) or repr(rows) != repr(paper):
         return False
     return all(slow_told(result_of(kind), setting, *map(answered, row)) for row in rows)
@@ -231,7 +226,7 @@ def so_fails(kind, finding):
             return False
         if not slow_tied(argument, setting, one, other):
             return False
-    outcomes = tuple(told_by(term, tuple(two[at] for two in case)) for at in (0, 1))
+    outcomes = tuple(slow_run(term, tuple(two[at] for two in case)) for at in (0, 1))
     if repr(outcomes) != repr((left, right)):
         return False
     return not slow_told(result_of(kind), setting, *map(answered, outcomes))
@@ -242,7 +237,7 @@ def so_alike(kind, finding):
     if unbounded_at(kind, looked) is not None:
         return False
     tries = slow_tries(kind, looked, bound, 4)
-    outcomes = [(told_by(one, tried), told_by(other, tried)) for tried in tries]
+    outcomes = [(slow_run(one, tried), slow_run(other, tried)) for tried in tries]
     if len(tries) > 200 or any("too much" in two or repr(two[0][:-1]) != repr(two[1][:-1]) for two in outcomes):
         return False
     rows = [(tried, two[0][:-1]) for tried, two in zip(tries, outcomes)]
@@ -261,7 +256,7 @@ def so_parted(kind, finding):
         # In what is drawn here a table has as many rows as there are things in the data, or this is told.
         if worth not in makers and worth not in slow_worths(argument, sizes_of(args), 3):
             return False
-    outcomes = (told_by(one, args), told_by(other, args))
+    outcomes = (slow_run(one, args), slow_run(other, args))
     return repr(outcomes) == repr((left, right)) and repr(left[:-1]) != repr(right[:-1])
 
 
